@@ -4,10 +4,11 @@ Each call has a function here that takes the picture and the call's whole number
 gives back the numbers answered; CALLS tells which function, and how many it takes.
 """
 
-from tallpost.picture import Picture, lowest
+from tallpost.picture import Picture, excess, is_same, lowest
 
 NOT_STARTED = -11
 OUT_OF_RANGE = -22
+SAME_POINT = -17
 NOT_READY = -16
 NOT_STANDING = -33
 BEYOND_ALL = -6
@@ -33,9 +34,21 @@ def is_height(number):
     return are_within([number], 1, 1000)
 
 
-def point_at(u, v):
-    """The point u, v by three numbers."""
-    return (u, v, 1)
+def points_of(numbers):
+    """The points that are told by two numbers each, as three numbers each."""
+    return [(numbers[place], numbers[place + 1], 1) for place in range(0, len(numbers), 2)]
+
+
+def one_if(truth):
+    """The number that answers whether something is so."""
+    return 1 if truth else 0
+
+
+def one_or_two(balance):
+    """The number that answers to which of two something falls: 1 above 0, 2 below, 0 to neither."""
+    if balance == 0:
+        return 0
+    return 1 if balance > 0 else 2
 
 
 def tell_place(point):
@@ -74,15 +87,16 @@ def answer_post(picture, numbers):
     """Take a post with its foot at u, v, its head at s, t, and n high."""
     if not are_seen(numbers[:4]) or not is_height(numbers[4]):
         return [OUT_OF_RANGE]
-    picture.post_foot = point_at(numbers[0], numbers[1])
-    picture.post_head = point_at(numbers[2], numbers[3])
+    points = points_of(numbers[:4])
+    picture.post_foot = points[0]
+    picture.post_head = points[1]
     picture.post_height = numbers[4]
     return [0]
 
 
 def answer_ready(picture, numbers):
     """Tell whether it's ready."""
-    return [1 if picture.is_ready() else 0]
+    return [one_if(picture.is_ready())]
 
 
 def answer_height(picture, numbers):
@@ -91,11 +105,10 @@ def answer_height(picture, numbers):
         return [OUT_OF_RANGE]
     if not picture.is_ready():
         return [NOT_READY]
-    foot = point_at(numbers[0], numbers[1])
-    head = point_at(numbers[2], numbers[3])
-    if not picture.is_standing(foot, head):
+    points = points_of(numbers)
+    if not picture.is_standing(points[0], points[1]):
         return [NOT_STANDING]
-    return [0] + list(picture.measure(foot, head))
+    return [0] + list(picture.measure(points[0], points[1]))
 
 
 def answer_eye(picture, numbers):
@@ -113,10 +126,87 @@ def answer_head(picture, numbers):
         return [OUT_OF_RANGE]
     if not picture.is_ready():
         return [NOT_READY]
-    foot = point_at(numbers[0], numbers[1])
+    foot = points_of(numbers[:2])[0]
     if not picture.can_bear(foot):
         return [NOT_STANDING]
     return tell_place(picture.place_head(foot, numbers[2], numbers[3]))
+
+
+def answer_taller(picture, numbers):
+    """Tell which of two is higher: the one on u, v with its head at s, t, or that on a, b with d, e."""
+    if not are_seen(numbers):
+        return [OUT_OF_RANGE]
+    if not picture.is_ready():
+        return [NOT_READY]
+    points = points_of(numbers)
+    if not picture.is_standing(points[0], points[1]) or not picture.is_standing(points[2], points[3]):
+        return [NOT_STANDING]
+    first = picture.measure(points[0], points[1])
+    second = picture.measure(points[2], points[3])
+    return [one_or_two(excess(first, second))]
+
+
+def answer_side(picture, numbers):
+    """Tell on which side of the horizon u, v is."""
+    if not are_seen(numbers):
+        return [OUT_OF_RANGE]
+    if not picture.is_ready():
+        return [NOT_READY]
+    return [one_or_two(picture.side(points_of(numbers)[0]))]
+
+
+def answer_like(picture, numbers):
+    """Tell where the head would be seen of something on a, b that's as high as that on u, v with its head at s, t."""
+    if not are_seen(numbers):
+        return [OUT_OF_RANGE]
+    if not picture.is_ready():
+        return [NOT_READY]
+    points = points_of(numbers)
+    if not picture.is_standing(points[0], points[1]) or not picture.can_bear(points[2]):
+        return [NOT_STANDING]
+    height = picture.measure(points[0], points[1])
+    return tell_place(picture.place_head(points[2], height[0], height[1]))
+
+
+def answer_rule(picture, numbers):
+    """Tell how high the post would be, were something on u, v with its head at s, t n high."""
+    if not are_seen(numbers[:4]) or not is_height(numbers[4]):
+        return [OUT_OF_RANGE]
+    if not picture.is_ready():
+        return [NOT_READY]
+    points = points_of(numbers[:4])
+    if not picture.is_standing(points[0], points[1]) or is_same(points[0], points[1]):
+        return [NOT_STANDING]
+    return [0] + list(picture.post_height_by(points[0], points[1], numbers[4]))
+
+
+def answer_stands(picture, numbers):
+    """Tell whether something stands with its foot at u, v and its head at s, t."""
+    if not are_seen(numbers):
+        return [OUT_OF_RANGE]
+    if not picture.is_ready():
+        return [NOT_READY]
+    points = points_of(numbers)
+    return [one_if(picture.is_standing(points[0], points[1]))]
+
+
+def answer_meet(picture, numbers):
+    """Tell where the line through u, v and s, t meets the horizon."""
+    if not are_seen(numbers):
+        return [OUT_OF_RANGE]
+    points = points_of(numbers)
+    if is_same(points[0], points[1]):
+        return [SAME_POINT]
+    # Up and post have no part in this, so it needn't be ready.
+    if picture.horizon is None:
+        return [NOT_READY]
+    return tell_place(picture.meet(points[0], points[1]))
+
+
+def answer_state(picture, numbers):
+    """Tell whether it's ready, and which of horizon, up and post are told."""
+    told = [picture.horizon is not None, picture.up is not None, picture.post_foot is not None]
+    return [one_if(picture.is_ready())] + [one_if(truth) for truth in told]
 
 
 CALLS = {
@@ -128,6 +218,13 @@ CALLS = {
     5: (4, answer_height),
     6: (0, answer_eye),
     7: (4, answer_head),
+    8: (8, answer_taller),
+    9: (2, answer_side),
+    10: (6, answer_like),
+    11: (5, answer_rule),
+    12: (4, answer_stands),
+    13: (4, answer_meet),
+    14: (0, answer_state),
 }
 
 

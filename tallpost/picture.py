@@ -25,13 +25,19 @@ def lowest(above, below):
     return (above // shared, below // shared)
 
 
+def excess(first, second):
+    """Above 0 if the first fraction is the greater, below 0 if the second is, 0 if they're alike."""
+    # Both are as lowest() makes them: what's below is above 0 and turns no sign.
+    return first[0] * second[1] - second[0] * first[1]
+
+
 def makes(line, point):
     """What a point makes with a line: 0 if it is on it."""
     return line[0] * point[0] + line[1] * point[1] + line[2] * point[2]
 
 
 def cross(first, second):
-    """The line through two points; three times 0 if they are one point."""
+    """The line through two points, or the point on two lines; three times 0 if the two are one."""
     return (
         first[1] * second[2] - first[2] * second[1],
         first[2] * second[0] - first[0] * second[2],
@@ -101,6 +107,20 @@ class Picture:
         """How high the eye is."""
         by_post = self.scale()
         return lowest(by_post[0], by_post[1] * makes(self.horizon, self.up))
+
+    def post_height_by(self, foot, head, height):
+        """How high the post would be, were something that stands, and isn't 0 high, that high."""
+        own_height = self.measure(foot, head)
+        return lowest(height * self.post_height * own_height[1], own_height[0])
+
+    def side(self, point):
+        """0 if a point is on the horizon, above 0 on the side of the post's foot, below 0 on the other."""
+        # Both have 1 for their third number, so what they make may be compared by sign.
+        return makes(self.horizon, point) * makes(self.horizon, self.post_foot)
+
+    def meet(self, first, second):
+        """The point in which the line through two points meets the horizon; its third number is 0 if none is seen."""
+        return cross(cross(first, second), self.horizon)
 
     def place_head(self, foot, above, below):
         """The head, a point, of something on that foot that is above by below high."""

@@ -1,8 +1,11 @@
-"""What the tests share: calls by name, lines of calls, and two pictures."""
+"""What the tests share: calls by name, lines of calls, and three pictures."""
 
 from tallpost.beside import answers
 
-NUMBERS = {"start": 0, "horizon": 1, "up": 2, "post": 3, "ready": 4, "height": 5, "eye": 6, "head": 7}
+NUMBERS = {
+    "start": 0, "horizon": 1, "up": 2, "post": 3, "ready": 4, "height": 5, "eye": 6, "head": 7,
+    "taller": 8, "side": 9, "like": 10, "rule": 11, "stands": 12, "meet": 13, "state": 14,
+}
 
 LEAST = -(2 ** 31)
 MOST = 2 ** 31 - 1
@@ -10,6 +13,7 @@ MOST = 2 ** 31 - 1
 START = ("start",)
 READY = ("ready",)
 EYE = ("eye",)
+STATE = ("state",)
 
 # The horizon is the row v = 10, and all that's upright goes straight up the picture.
 # The post's rise is 50 - 30 = 20 and its foot makes 50 - 10 = 40: a rise of r on a
@@ -31,6 +35,33 @@ TILTED = [START, LEVEL_HORIZON, TILTED_UP, TILTED_POST]
 NEAR_UP = ("up", 50, 100, 1)
 NEAR_POST = ("post", 50, 70, 50, 40, 1)
 NEAR = [START, LEVEL_HORIZON, NEAR_UP, NEAR_POST]
+
+# Lines behind which it isn't ready.
+UNREADY = [
+    [START],
+    [START, LEVEL_HORIZON, LEVEL_UP],
+    [START, LEVEL_HORIZON, LEVEL_POST],
+    [START, LEVEL_UP, LEVEL_POST],
+    [START, LEVEL_HORIZON, LEVEL_UP, ("post", 20, 50, 20, 50, 2)],
+    [START, LEVEL_HORIZON, LEVEL_UP, ("post", 20, 50, 21, 30, 2)],
+    [START, LEVEL_HORIZON, ("up", 50, 25, 1), TILTED_POST],
+    [START, LEVEL_HORIZON, TILTED_UP],
+]
+
+# One of each call that asks, with what each answers behind LEVEL.
+ASKED = {
+    READY: [1],
+    ("height", 60, 90, 60, 50): [0, 2, 1],
+    EYE: [0, 4, 1],
+    ("head", 60, 90, 2, 1): [0, 60, 1, 50, 1],
+    ("taller", 60, 90, 60, 60, 20, 50, 20, 30): [2],
+    ("side", 30, 9): [2],
+    ("like", 20, 50, 20, 30, 60, 90): [0, 60, 1, 50, 1],
+    ("rule", 60, 90, 60, 60, 3): [0, 4, 1],
+    ("stands", 60, 90, 60, 50): [1],
+    ("meet", 20, 50, 30, 30): [0, 40, 1, 10, 1],
+    STATE: [1, 1, 1, 1],
+}
 
 
 def flat(calls):
@@ -66,3 +97,13 @@ def ask(calls):
 def last(calls):
     """What the last call answers."""
     return ask(calls)[-1]
+
+
+def behind(line, calls):
+    """What the calls answer that stand behind that line."""
+    return ask(line + calls)[len(line):]
+
+
+def put(call, place, number):
+    """The call with its number at that place (0 the first) replaced."""
+    return call[:place + 1] + (number,) + call[place + 2:]

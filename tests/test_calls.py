@@ -5,12 +5,12 @@ import io
 import unittest
 
 from tallpost.beside import answers
-from tests.lines import EYE, LEAST, LEVEL, LEVEL_HORIZON, LEVEL_POST, LEVEL_UP, MOST, NEAR, READY, START, TILTED
-from tests.lines import TILTED_POST, TILTED_UP, ask, flat, last
+from tests.lines import ASKED, EYE, LEAST, LEVEL, LEVEL_HORIZON, LEVEL_POST, LEVEL_UP, MOST, NEAR, NUMBERS, READY
+from tests.lines import START, STATE, TILTED, TILTED_POST, TILTED_UP, ask, behind, flat, last
 
 HEIGHT = ("height", 60, 90, 60, 50)
 HEAD = ("head", 60, 90, 2, 1)
-OTHERS = [LEVEL_HORIZON, LEVEL_UP, LEVEL_POST, READY, HEIGHT, EYE, HEAD]
+OTHERS = [LEVEL_HORIZON, LEVEL_UP, LEVEL_POST] + list(ASKED)
 
 
 class Form(unittest.TestCase):
@@ -44,8 +44,47 @@ class Form(unittest.TestCase):
             1, -22,
         ])
 
+    def test_the_calls_8_to_14_by_the_letter(self):
+        told = answers([
+            14,
+            0,
+            14,
+            1, 0, 1, -10,
+            2, 0, 1, 0,
+            3, 20, 50, 20, 30, 2,
+            14,
+            8, 60, 90, 60, 60, 20, 50, 20, 30,
+            9, 30, 9,
+            10, 60, 90, 60, 60, 0, 30,
+            11, 60, 90, 60, 60, 1,
+            12, 60, 90, 60, 60,
+            13, 20, 50, 27, 47,
+            13, 20, 50, 20, 50,
+            14,
+        ])
+        self.assertEqual(told, [
+            1, -11,
+            1, 0,
+            4, 0, 0, 0, 0,
+            1, 0,
+            1, 0,
+            1, 0,
+            4, 1, 1, 1, 1,
+            1, 2,
+            1, 2,
+            5, 0, 0, 1, 45, 2,
+            3, 0, 4, 3,
+            1, 1,
+            5, 0, 340, 3, 10, 1,
+            1, -17,
+            4, 1, 1, 1, 1,
+        ])
+
+    def test_each_call_behind_a_picture(self):
+        self.assertEqual(behind(LEVEL, list(ASKED)), list(ASKED.values()))
+
     def test_only_plain_whole_numbers_in_a_list(self):
-        told = answers(flat([READY] + LEVEL + [READY, HEIGHT, EYE, HEAD, START, READY]))
+        told = answers(flat([READY] + LEVEL + list(ASKED) + [START] + list(ASKED)))
         self.assertIs(type(told), list)
         for number in told:
             self.assertIs(type(number), int)
@@ -53,10 +92,12 @@ class Form(unittest.TestCase):
     def test_one_call(self):
         self.assertEqual(answers([0]), [1, 0])
         self.assertEqual(answers([4]), [1, -11])
+        self.assertEqual(answers([14]), [1, -11])
 
 
 class Beginning(unittest.TestCase):
     def test_ahead_of_the_first_start_every_other_call_is_refused(self):
+        self.assertEqual([NUMBERS[call[0]] for call in OTHERS], list(range(1, 15)))
         for call in OTHERS:
             with self.subTest(call=call):
                 self.assertEqual(ask([call]), [[-11]])
@@ -72,6 +113,13 @@ class Beginning(unittest.TestCase):
                 ("post", wrong, wrong, wrong, wrong, wrong),
                 ("height", wrong, wrong, wrong, wrong),
                 ("head", wrong, wrong, wrong, wrong),
+                ("taller",) + (wrong,) * 8,
+                ("side", wrong, wrong),
+                ("like",) + (wrong,) * 6,
+                ("rule",) + (wrong,) * 5,
+                ("stands",) + (wrong,) * 4,
+                ("meet",) + (wrong,) * 4,
+                ("meet", 5, 5, 5, 5),
             ):
                 with self.subTest(call=call):
                     self.assertEqual(ask([call]), [[-11]])
@@ -85,8 +133,14 @@ class Beginning(unittest.TestCase):
         self.assertEqual(answers([1, 0, 0, 0, 4]), [1, -11, 1, -11])
         self.assertEqual(answers([3, 0, 0, 0, 0, 0, 5, 0, 0, 0, 0, 7, 0, 0, 0, 0, 2, 0, 0, 0, 6]),
                          [1, -11] * 5)
+        self.assertEqual(answers([8] + [0] * 8 + [9, 0, 0, 10] + [0] * 6 + [11] + [0] * 5 + [12] + [0] * 4 + [13]
+                                 + [0] * 4 + [14]),
+                         [1, -11] * 7)
         self.assertEqual(answers([0, 1, 0, 0, 0, 2, 0, 0, 0, 3, 0, 0, 0, 0, 0, 5, 0, 0, 0, 0, 7, 0, 0, 0, 0, 4]),
                          [1, 0, 1, -22, 1, -22, 1, -22, 1, -16, 1, -22, 1, 0])
+        self.assertEqual(answers([0, 8] + [0] * 8 + [9, 0, 0, 10] + [0] * 6 + [11] + [0] * 5 + [12] + [0] * 4 + [13]
+                                 + [0] * 4 + [4]),
+                         [1, 0, 1, -16, 1, -16, 1, -16, 1, -22, 1, -16, 1, -17, 1, 0])
 
 
 class Started(unittest.TestCase):
@@ -95,8 +149,7 @@ class Started(unittest.TestCase):
         self.assertEqual(ask([READY, START, START])[1:], [[0], [0]])
 
     def test_start_again_forgets_all(self):
-        self.assertEqual(ask(LEVEL + [READY, START, READY, HEIGHT, EYE, HEAD])[-6:],
-                         [[1], [0], [0], [-16], [-16], [-16]])
+        self.assertEqual(behind(LEVEL + [READY, START], list(ASKED)), [[0]] + [[-16]] * 9 + [[0, 0, 0, 0]])
 
     def test_start_again_forgets_each(self):
         told = [LEVEL_HORIZON, LEVEL_UP, LEVEL_POST]
@@ -153,10 +206,31 @@ class Told(unittest.TestCase):
         self.assertEqual(ask(LEVEL + [("up", 1, 0, 0), READY, EYE, LEVEL_UP, READY, EYE])[-6:],
                          [[0], [0], [-16], [0], [1], [0, 4, 1]])
 
+    ASKED_AND_REFUSED = [
+        ("height", 60, 90, 61, 50), ("head", 60, 10, 1, 1), ("height", 0, 0, 0, 101),
+        ("taller", 60, 90, 61, 50, 20, 50, 20, 30), ("taller",) + (101,) * 8,
+        ("side", 101, 0),
+        ("like", 20, 50, 20, 30, 60, 10), ("like",) + (101,) * 6,
+        ("rule", 60, 90, 60, 90, 9), ("rule", 60, 90, 60, 50, 0),
+        ("stands", 60, 90, 61, 50), ("stands", 0, 0, 0, 101),
+        ("meet", 20, 50, 60, 50), ("meet", 5, 5, 5, 5), ("meet", 5, 5, 5, 101),
+    ]
+
     def test_asking_changes_nothing(self):
-        asked = [READY, HEIGHT, EYE, HEAD, ("height", 60, 90, 61, 50), ("head", 60, 10, 1, 1), ("height", 0, 0, 0, 101)]
-        parts = ask(LEVEL + asked + asked)
-        self.assertEqual(parts[4:11], parts[11:])
+        asked = list(ASKED) + self.ASKED_AND_REFUSED
+        parts = behind(LEVEL, asked + asked)
+        self.assertEqual(parts[:len(asked)], parts[len(asked):])
+
+    def test_behind_each_call_that_asks_the_answers_are_as_without_it(self):
+        for line in (LEVEL, TILTED, NEAR, LEVEL[:1], LEVEL[:2], LEVEL[:3], [START, LEVEL_UP, LEVEL_POST]):
+            without = behind(line, list(ASKED))
+            for call in list(ASKED) + self.ASKED_AND_REFUSED:
+                with self.subTest(line=line, call=call):
+                    self.assertEqual(behind(line + [call], list(ASKED)), without)
+
+    def test_calls_that_ask_between_those_that_tell(self):
+        line = [START] + list(ASKED) + [LEVEL_HORIZON] + list(ASKED) + [LEVEL_UP] + list(ASKED) + [LEVEL_POST]
+        self.assertEqual(behind(line, list(ASKED)), list(ASKED.values()))
 
 
 class Length(unittest.TestCase):
@@ -166,6 +240,19 @@ class Length(unittest.TestCase):
         self.assertLessEqual(len(flat(calls)), 2000)
         self.assertEqual(ask(calls), [[0]] * 4 + [[0, 2, 1], [0, 4, 1], [0, 60, 1, 50, 1], [1]] * 49)
 
+    def test_two_hundred_calls_with_all_fifteen_among_them(self):
+        part = LEVEL + list(ASKED)
+        told = [[0]] * 4 + list(ASKED.values())
+        calls = part * 13 + part[:5]
+        self.assertEqual({NUMBERS[call[0]] for call in calls}, set(range(15)))
+        self.assertEqual(len(calls), 200)
+        self.assertLessEqual(len(flat(calls)), 2000)
+        self.assertEqual(ask(calls), told * 13 + told[:5])
+
+    def test_two_hundred_of_the_longest(self):
+        calls = LEVEL + [("taller", 60, 90, 60, 60, 20, 50, 20, 30)] * 196
+        self.assertEqual(ask(calls), [[0]] * 4 + [[2]] * 196)
+
     def test_two_hundred_refused_calls(self):
         self.assertEqual(ask([READY] * 200), [[-11]] * 200)
 
@@ -174,7 +261,7 @@ class Length(unittest.TestCase):
 
 
 class NothingKept(unittest.TestCase):
-    CALLS = [READY] + LEVEL + [HEIGHT, EYE, HEAD, ("up", 0, 0, 0)] + TILTED + [EYE, READY]
+    CALLS = [READY, STATE] + LEVEL + list(ASKED) + [("up", 0, 0, 0)] + TILTED + list(ASKED)
 
     def test_the_list_handed_in_is_as_it_was(self):
         numbers = flat(self.CALLS)

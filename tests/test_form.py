@@ -26,12 +26,31 @@ BARRED_WORDS = re.compile(
     r"|NamedTuple|TypedDict|TYPE_CHECKING|abstractmethod)\b|dataclass|overload|contextmanager"
 )
 BARRED_NAMES = ("print", "open", "input", "eval", "exec", "compile", "getattr", "setattr", "globals", "locals", "sys")
+PYTHONS_NAMES = (
+    "len range enumerate zip min max sum abs sorted reversed int str bool list tuple dict set frozenset isinstance ord "
+    "repr any all divmod"
+).split()
+PYTHONS_METHODS = (
+    "append clear copy count endswith extend find get index insert isalnum isalpha isdigit islower isspace isupper "
+    "items join keys ljust lower lstrip partition pop remove replace reverse rfind rjust rpartition rsplit rstrip "
+    "setdefault split splitlines startswith strip update upper values zfill bit_length"
+).split()
+PYTHONS_OWN = {name for kind in (str, int, list, dict, set, bytes, tuple) for name in dir(kind)}
+
+
+def bound_names(tree):
+    """Every name that a file binds, wherever in it."""
+    names = [node.name for node in ast.walk(tree) if isinstance(node, (ast.FunctionDef, ast.ClassDef, ast.alias))]
+    names += [node.arg for node in ast.walk(tree) if isinstance(node, ast.arg)]
+    names += [node.id for node in ast.walk(tree) if isinstance(node, ast.Name) and isinstance(node.ctx, ast.Store)]
+    return names
 
 
 class Form(unittest.TestCase):
     def setUp(self):
         self.texts = [path.read_text(encoding="utf-8") for path in FILES]
-        self.nodes = [node for text in self.texts for node in ast.walk(ast.parse(text))]
+        self.trees = [ast.parse(text) for text in self.texts]
+        self.nodes = [node for tree in self.trees for node in ast.walk(tree)]
 
     def test_nothing_else_lies_in_the_package(self):
         names = sorted(path.name for path in FOLDER.iterdir() if path.name != "__pycache__")
@@ -65,6 +84,40 @@ class Form(unittest.TestCase):
                 self.assertIn(type(node.value), (int, str, bool, type(None)))
             if isinstance(node, ast.Name):
                 self.assertNotIn(node.id, BARRED_NAMES)
+
+    def test_every_name_is_the_files_own_or_one_of_pythons_that_may_be_used(self):
+        for tree in self.trees:
+            bound = bound_names(tree)
+            for name in bound:
+                self.assertRegex(name, r"^([A-Za-z][A-Za-z0-9_]*|__init__)$")
+                self.assertNotIn(name, PYTHONS_NAMES)
+            for node in ast.walk(tree):
+                if isinstance(node, ast.Name):
+                    self.assertIn(node.id, bound + PYTHONS_NAMES)
+
+    def test_methods_and_values(self):
+        classes = [node for node in self.nodes if isinstance(node, ast.ClassDef)]
+        methods = [part.name for node in classes for part in node.body if isinstance(part, ast.FunctionDef)]
+        self.assertEqual(len(methods), len(set(methods)))
+        for name in methods:
+            self.assertTrue(name == "__init__" or name not in PYTHONS_OWN, name)
+        called = [node.func.attr for node in self.nodes
+                  if isinstance(node, ast.Call) and isinstance(node.func, ast.Attribute)]
+        stored = [node.attr for node in self.nodes
+                  if isinstance(node, ast.Attribute) and isinstance(node.ctx, ast.Store)]
+        for name in called:
+            self.assertIn(name, methods + PYTHONS_METHODS)
+        for name in stored:
+            self.assertNotIn(name, methods)
+            self.assertNotIn(name, PYTHONS_OWN)
+
+    def test_one_target_and_is_beside_none_alone(self):
+        for node in self.nodes:
+            if isinstance(node, ast.Assign):
+                self.assertEqual(len(node.targets), 1)
+                self.assertNotIsInstance(node.targets[0], (ast.Tuple, ast.List))
+            if isinstance(node, ast.Compare) and isinstance(node.ops[0], (ast.Is, ast.IsNot)):
+                self.assertIsInstance(node.comparators[0], ast.Constant)
 
     def test_barred_words(self):
         for text in self.texts:

@@ -2,29 +2,25 @@
 
 import unittest
 
-from tests.lines import LEAST, LEVEL, LEVEL_HORIZON, LEVEL_UP, MOST, START, ask, last
+from tests.lines import LEAST, LEVEL, LEVEL_HORIZON, LEVEL_UP, MOST, START, ask, behind, last, put
 
 
 class Ranges(unittest.TestCase):
-    def put(self, call, place, number):
-        """The call with its number at that place (0 the first) replaced."""
-        return call[:place + 1] + (number,) + call[place + 2:]
-
     def check(self, line, call, place, least, most):
         """At its ends the number isn't refused with -22; one beyond, and far out, it is."""
         for number in (least, most):
             with self.subTest(call=call[0], place=place, number=number):
-                self.assertNotEqual(last(line + [self.put(call, place, number)]), [-22])
+                self.assertNotEqual(last(line + [put(call, place, number)]), [-22])
         for number in (least - 1, most + 1, LEAST, MOST):
             with self.subTest(call=call[0], place=place, number=number):
-                self.assertEqual(last(line + [self.put(call, place, number)]), [-22])
+                self.assertEqual(last(line + [put(call, place, number)]), [-22])
 
     def check_told(self, call, place, least, most):
         """The same of a call that answers 0 if it isn't refused."""
         self.check([START], call, place, least, most)
         for number in (least, most):
             with self.subTest(call=call[0], place=place, number=number):
-                self.assertEqual(last([START, self.put(call, place, number)]), [0])
+                self.assertEqual(last([START, put(call, place, number)]), [0])
 
 
 class Horizon(Ranges):
@@ -124,6 +120,82 @@ class Head(Ranges):
 
     def test_all_at_once(self):
         self.assertEqual(ask(LEVEL + [("head",) + (LEAST,) * 4, ("head",) + (MOST,) * 4])[4:], [[-22], [-22]])
+
+
+class Points(Ranges):
+    """The calls whose numbers are those of points, rule's height apart."""
+
+    def check_points(self, call, count):
+        """Each of the first numbers is a point's, and is refused out of range, ready or not."""
+        for place in range(count):
+            self.check(LEVEL, call, place, 0, 100)
+            self.check([START], call, place, 0, 100)
+
+    def check_all_at_once(self, name, count):
+        calls = [(name,) + (number,) * count for number in (LEAST, MOST, -1, 101)]
+        self.assertEqual(behind(LEVEL, calls), [[-22]] * 4)
+        self.assertEqual(behind([START], calls), [[-22]] * 4)
+
+    def test_taller(self):
+        self.check_points(("taller", 60, 90, 60, 50, 20, 50, 20, 30), 8)
+        self.check_all_at_once("taller", 8)
+
+    def test_taller_at_the_ends(self):
+        # Rises of 100 on feet that make 90 and -10: 40/9 and 40 high, the other way below 0.
+        self.assertEqual(behind(LEVEL, [
+            ("taller", 0, 100, 0, 0, 100, 0, 100, 100),
+            ("taller", 0, 0, 0, 100, 100, 100, 100, 0),
+            ("taller", 0, 0, 0, 0, 100, 100, 100, 100),
+        ]), [[2], [1], [0]])
+
+    def test_side(self):
+        self.check_points(("side", 60, 90), 2)
+        self.check_all_at_once("side", 2)
+
+    def test_side_at_the_ends(self):
+        calls = [("side", 0, 0), ("side", 100, 0), ("side", 0, 100), ("side", 100, 100)]
+        self.assertEqual(behind(LEVEL, calls), [[2], [2], [1], [1]])
+
+    def test_like(self):
+        self.check_points(("like", 20, 50, 20, 30, 60, 90), 6)
+        self.check_all_at_once("like", 6)
+
+    def test_like_at_the_ends(self):
+        # A rise of 100 on a foot that makes 90 is one of 100 / -9 on a foot that makes -10.
+        self.assertEqual(behind(LEVEL, [("like", 0, 100, 0, 0, 100, 0), ("like", 100, 0, 100, 100, 0, 100)]),
+                         [[0, 100, 1, 100, 9], [0, 0, 1, -800, 1]])
+
+    def test_rule(self):
+        call = ("rule", 60, 90, 60, 50, 2)
+        self.check_points(call, 4)
+        self.check(LEVEL, call, 4, 1, 1000)
+        self.check([START], call, 4, 1, 1000)
+        self.check_all_at_once("rule", 5)
+
+    def test_rule_at_the_ends(self):
+        # What is 2 high were 1 or 1000; then 40/9 and 40 were 10.
+        self.assertEqual(behind(LEVEL, [
+            ("rule", 60, 90, 60, 50, 1),
+            ("rule", 60, 90, 60, 50, 1000),
+            ("rule", 0, 100, 0, 0, 10),
+            ("rule", 100, 0, 100, 100, 10),
+        ]), [[0, 1, 1], [0, 1000, 1], [0, 9, 2], [0, 1, 2]])
+
+    def test_stands(self):
+        self.check_points(("stands", 60, 90, 60, 50), 4)
+        self.check_all_at_once("stands", 4)
+
+    def test_stands_at_the_ends(self):
+        calls = [("stands", 0, 0, 0, 100), ("stands", 100, 100, 100, 0), ("stands", 0, 0, 100, 100)]
+        self.assertEqual(behind(LEVEL, calls), [[1], [1], [0]])
+
+    def test_meet(self):
+        self.check_points(("meet", 60, 90, 20, 30), 4)
+        self.check_all_at_once("meet", 4)
+
+    def test_meet_at_the_ends(self):
+        calls = [("meet", 0, 0, 100, 100), ("meet", 100, 0, 0, 100), ("meet", 0, 100, 0, 0)]
+        self.assertEqual(behind(LEVEL, calls), [[0, 10, 1, 10, 1], [0, 90, 1, 10, 1], [0, 0, 1, 10, 1]])
 
 
 class FarOutLines(unittest.TestCase):

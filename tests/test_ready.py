@@ -2,22 +2,30 @@
 
 import unittest
 
-from tests.lines import EYE, LEVEL, LEVEL_HORIZON, LEVEL_POST, LEVEL_UP, NEAR, NEAR_UP, READY, START, TILTED
-from tests.lines import TILTED_POST, ask, last
+from tests.lines import ASKED, LEVEL, LEVEL_HORIZON, LEVEL_POST, LEVEL_UP, NEAR, NEAR_UP, READY, START, STATE, TILTED
+from tests.lines import TILTED_POST, ask, behind, last
 
-NOT_READY = [[0], [-16], [-16], [-16]]
-ASKED = [READY, ("height", 60, 90, 60, 50), EYE, ("head", 60, 90, 2, 1)]
+NEEDING = [call for call in ASKED if call[0] not in ("ready", "meet", "state")]
 
 
 class Ready(unittest.TestCase):
     def check_not(self, told):
         """It isn't ready, and each call that needs it is refused so."""
-        parts = ask([START] + told + ASKED)
-        self.assertEqual(parts[:-4], [[0]] * (1 + len(told)))
-        self.assertEqual(parts[-4:], NOT_READY)
+        line = [START] + told
+        self.assertEqual(ask(line), [[0]] * len(line))
+        names = [call[0] for call in told]
+        state = [0] + [int(name in names) for name in ("horizon", "up", "post")]
+        self.assertEqual(behind(line, [READY, STATE]), [[0], state])
+        for call, part in zip(NEEDING, behind(line, NEEDING)):
+            with self.subTest(told=told, call=call):
+                self.assertEqual(part, [-16])
 
     def check(self, told):
-        self.assertEqual(ask([START] + told + [READY])[-1], [1])
+        self.assertEqual(behind([START] + told, [READY, STATE]), [[1], [1, 1, 1, 1]])
+
+    def test_the_calls_that_need_it(self):
+        self.assertEqual([call[0] for call in NEEDING],
+                         ["height", "eye", "head", "taller", "side", "like", "rule", "stands"])
 
     def test_it_is(self):
         for line in (LEVEL, TILTED, NEAR):
